@@ -1,0 +1,1 @@
+"""Nightglass: plates of the night sky, tied to one another and untied again."""

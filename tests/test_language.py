@@ -1,0 +1,93 @@
+"""The form of the package's files: the rules of LANGUAGE.md that a file shows by itself.
+
+With these [1] is held, too: a file that draws in nothing but the package's own modules and
+calls nothing but the names listed here has no clock, no chance and no files at hand.
+"""
+
+import ast
+import builtins
+import pathlib
+import re
+import unittest
+
+PACKAGE = pathlib.Path(__file__).resolve().parent.parent / "nightglass"
+FILES = sorted(PACKAGE.rglob("*.py"))
+
+OWN_NAMES = set(
+    "len range enumerate zip min max sum abs sorted reversed int str bool bytes list tuple dict set "
+    "frozenset isinstance ord repr any all divmod Exception ValueError TypeError KeyError IndexError "
+    "LookupError ZeroDivisionError ArithmeticError OverflowError RuntimeError NotImplementedError "
+    "AttributeError StopIteration".split()
+)
+BANNED_WORDS = (
+    r"\b(type|typing|typing_extensions|enum|Enum|IntEnum|StrEnum|Flag|IntFlag|Generic|Protocol|ABC|"
+    r"ABCMeta|namedtuple|NamedTuple|TypedDict|TYPE_CHECKING|abstractmethod)\b|"
+    r"dataclass|overload|contextmanager"
+)
+BANNED_NODES = (
+    ast.With, ast.AsyncWith, ast.Match, ast.Global, ast.Nonlocal, ast.Yield, ast.YieldFrom, ast.Await,
+    ast.AsyncFor, ast.AsyncFunctionDef, ast.GeneratorExp, ast.NamedExpr, ast.Import, ast.Div,
+)
+
+
+def texts():
+    return [(path.name, path.read_text(encoding="utf-8")) for path in FILES]
+
+
+def nodes():
+    """Every node of every file, with the file's name and the place at which it stands."""
+    return [
+        (f"{name}:{getattr(node, 'lineno', 0)}", node)
+        for name, text in texts()
+        for node in ast.walk(ast.parse(text))
+    ]
+
+
+class LanguageTest(unittest.TestCase):
+    def test_the_folder_holds_its_files_alone(self):
+        self.assertIn(PACKAGE / "__init__.py", FILES)
+        for path in PACKAGE.rglob("*"):
+            if "__pycache__" not in path.parts and path.is_file():
+                self.assertRegex(path.name, r"^[a-z0-9_]+\.py$")
+
+    def test_signs_and_sizes(self):
+        for name, text in texts():
+            self.assertRegex(text, r"\A[ -~\n]*\Z", name)
+            lines = text.splitlines()
+            self.assertLessEqual(len(lines), 400, name)
+            self.assertLessEqual(max([len(line) for line in lines], default=0), 120, name)
+
+    def test_functions_have_at_most_forty_lines(self):
+        for place, node in nodes():
+            if isinstance(node, ast.FunctionDef):
+                self.assertLessEqual(node.end_lineno - node.lineno + 1, 40, place)
+
+    def test_words_that_stand_nowhere(self):
+        for name, text in texts():
+            self.assertIsNone(re.search(BANNED_WORDS, text), name)
+
+    def test_only_own_modules_are_drawn_in(self):
+        for place, node in nodes():
+            if isinstance(node, ast.ImportFrom):
+                self.assertEqual((node.level, node.col_offset), (0, 0), place)
+                self.assertTrue(node.module.startswith("nightglass."), place)
+                self.assertNotIn("*", [name.name for name in node.names], place)
+
+    def test_only_listed_names_of_python(self):
+        unlisted = set(dir(builtins)) - OWN_NAMES
+        for place, node in nodes():
+            if isinstance(node, ast.Name):
+                self.assertNotIn(node.id, unlisted, place)
+
+    def test_no_statement_or_expression_outside_the_rules(self):
+        for place, node in nodes():
+            self.assertNotIsInstance(node, BANNED_NODES, place)
+            self.assertNotIsInstance(getattr(node, "value", None), float, place)
+            if isinstance(node, (ast.FunctionDef, ast.ClassDef)):
+                self.assertEqual(node.decorator_list, [], place)
+            if isinstance(node, (ast.For, ast.While)):
+                self.assertEqual(node.orelse, [], place)
+
+
+if __name__ == "__main__":
+    unittest.main()
