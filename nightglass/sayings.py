@@ -8,6 +8,8 @@ from nightglass.errors import Denied
 
 BRIGHTEST = 9
 
+UNSEEN = ("unseen", 0)
+
 
 def span(saying):
     """The least and the greatest brightness that a saying leaves."""
@@ -35,7 +37,7 @@ def narrowest(least, greatest):
     # All other sayings begin at 0, so a span that begins higher is widened down to it.
     if greatest < BRIGHTEST:
         return ("under", greatest + 1)
-    return ("unseen", 0)
+    return UNSEEN
 
 
 def agree(one, other):

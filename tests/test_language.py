@@ -43,6 +43,25 @@ def nodes():
     ]
 
 
+def drawn(tree):
+    """The names that a file draws in."""
+    rows = [node for node in tree.body if isinstance(node, ast.ImportFrom)]
+    return {name.asname or name.name for node in rows for name in node.names}
+
+
+def class_names(tree):
+    return {node.name for node in tree.body if isinstance(node, ast.ClassDef)}
+
+
+def locals_of(tree):
+    """Every parameter and every local of a file's defs, with its line."""
+    defs = [node for node in ast.walk(tree) if isinstance(node, (ast.FunctionDef, ast.Lambda))]
+    inner = [node for one in defs for node in ast.walk(one)]
+    params = [(node.arg, node.lineno) for node in inner if isinstance(node, ast.arg)]
+    given = [node for node in inner if isinstance(node, ast.Name) and not isinstance(node.ctx, ast.Load)]
+    return params + [(node.id, node.lineno) for node in given]
+
+
 class LanguageTest(unittest.TestCase):
     def test_the_folder_holds_its_files_alone(self):
         self.assertIn(PACKAGE / "__init__.py", FILES)
@@ -78,6 +97,38 @@ class LanguageTest(unittest.TestCase):
         for place, node in nodes():
             if isinstance(node, ast.Name):
                 self.assertNotIn(node.id, unlisted, place)
+
+    def test_no_local_is_called_like_what_is_drawn_in_or_pythons_own(self):
+        for name, text in texts():
+            tree = ast.parse(text)
+            taken = drawn(tree) | class_names(tree) | set(dir(builtins))
+            for local, line in locals_of(tree):
+                self.assertNotIn(local, taken, f"{name}:{line}")
+                self.assertFalse(local.startswith("_"), f"{name}:{line}")
+
+    def test_no_name_is_a_method_and_a_value(self):
+        methods = {
+            inner.name
+            for place, node in nodes() if isinstance(node, ast.ClassDef)
+            for inner in node.body if isinstance(inner, ast.FunctionDef)
+        }
+        values = {
+            node.attr
+            for place, node in nodes()
+            if isinstance(node, ast.Attribute) and isinstance(node.ctx, ast.Store)
+        }
+        self.assertEqual(methods & values, set())
+
+    def test_every_name_drawn_in_is_used(self):
+        for name, text in texts():
+            tree = ast.parse(text)
+            used = {node.id for node in ast.walk(tree) if isinstance(node, ast.Name)}
+            self.assertLessEqual(drawn(tree), used, name)
+
+    def test_is_stands_beside_none_true_and_false(self):
+        for place, node in nodes():
+            if isinstance(node, ast.Compare) and isinstance(node.ops[0], (ast.Is, ast.IsNot)):
+                self.assertIsInstance(node.comparators[0], ast.Constant, place)
 
     def test_no_statement_or_expression_outside_the_rules(self):
         for place, node in nodes():

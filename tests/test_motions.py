@@ -3,25 +3,11 @@
 import itertools
 import unittest
 
+from oracle import HUNDRED, OTHER_HUNDRED, TURNS, led
+
 from nightglass.motions import STILL, back, behind, leading, moved
 
-TURNS = range(8)
-
-# [2]'s table, word for word.
-TABLE = {
-    0: lambda x, y: (x, y),
-    1: lambda x, y: (-y, x),
-    2: lambda x, y: (-x, -y),
-    3: lambda x, y: (y, -x),
-    4: lambda x, y: (-x, y),
-    5: lambda x, y: (-y, -x),
-    6: lambda x, y: (x, -y),
-    7: lambda x, y: (y, x),
-}
-
 THIRTY = 123456789012345678901234567890
-HUNDRED = 10 ** 100 - 1
-OTHER_HUNDRED = 7 * 10 ** 99 + 31
 
 SHIFTS = [
     (0, 0), (3, 0), (0, 5), (2, 7), (-4, 9), (6, -1), (-8, -3),
@@ -32,13 +18,6 @@ PLACES = [
     (THIRTY, 2), (-5, THIRTY + 1), (HUNDRED, -OTHER_HUNDRED), (-HUNDRED, -HUNDRED),
 ]
 MOTIONS = [(turn, right, up) for turn in TURNS for right, up in SHIFTS]
-
-
-def led(motion, place):
-    """What the document says that moved tells."""
-    turn, right, up = motion
-    x, y = TABLE[turn](place[0], place[1])
-    return (x + right, y + up)
 
 
 def whole(row):

@@ -3,41 +3,10 @@
 import itertools
 import unittest
 
+from oracle import BY_LEFT, SAYINGS, UNSEEN, expected_wide, left, left_by_all
+
 from nightglass.errors import Denied
 from nightglass.sayings import agree, joined, pool, widened
-
-UNSEEN = ("unseen", 0)
-SAYINGS = (
-    [("star", number) for number in range(1, 10)]
-    + [("under", number) for number in range(1, 10)]
-    + [UNSEEN]
-)
-ALL = frozenset(range(10))
-
-
-def left(saying):
-    """The brightnesses that a saying leaves, as [3] tells them."""
-    word, number = saying
-    if word == "star":
-        return frozenset([number])
-    if word == "under":
-        return frozenset(range(number))
-    return ALL
-
-
-BY_LEFT = {left(saying): saying for saying in SAYINGS}
-
-
-def left_by_all(sayings):
-    return ALL.intersection(*[left(saying) for saying in sayings])
-
-
-def expected_wide(sayings):
-    """The one of the nineteen that [3] asks for, looked up among all of them."""
-    wanted = frozenset().union(*[left(saying) for saying in sayings])
-    fitting = sorted([saying for saying in SAYINGS if wanted <= left(saying)], key=lambda s: len(left(s)))
-    assert len(fitting) == 1 or len(left(fitting[0])) < len(left(fitting[1]))
-    return fitting[0]
 
 
 def short_lists():
