@@ -5,6 +5,8 @@ A glass is a tuple (name, width, height, limit, stars), of which a Plate is made
 Nothing here calls the program but the makers at the end, which make its plates.
 """
 
+import itertools
+
 from nightglass.plates import Plate
 
 TURNS = range(8)
@@ -139,6 +141,95 @@ def put_together(first, second):
         if [led(motion, place) for place in corners] == goals:
             return motion
     raise AssertionError("no motion leads so")
+
+
+def led_chart(rows, motion):
+    return sorted([led(motion, row[:2]) + row[2:] for row in rows])
+
+
+def shifted_to_nought(rows):
+    low_x = min([row[0] for row in rows])
+    low_y = min([row[1] for row in rows])
+    return sorted([(row[0] - low_x, row[1] - low_y) + row[2:] for row in rows])
+
+
+def expected_form(rows):
+    return sorted([shifted_to_nought(led_chart(rows, (turn, 0, 0))) for turn in TURNS])[0]
+
+
+def expected_matches(one, other):
+    """Every motion that leads the other's first row to some row of one, tried."""
+    found = []
+    for turn in TURNS:
+        x, y = led((turn, 0, 0), other[0][:2])
+        for row in one:
+            motion = (turn, row[0] - x, row[1] - y)
+            if led_chart(other, motion) == one:
+                found.append(motion)
+    return sorted(found)
+
+
+def heard(lays):
+    """For each place of the frame all that the glasses whose windows it lies in leave there, one set each."""
+    told = {}
+    for glass, motion in lays:
+        for place in window(glass):
+            told.setdefault(led(motion, place), []).append(left(glass_says(glass, place)))
+    return told
+
+
+def star_places(lays):
+    rows = expected_chart(lays)
+    return {(x, y): number for x, y, word, number in rows if word == "star"}
+
+
+def expected_meetings(ones, others, motion):
+    here = star_places(ones)
+    there = {led(motion, place): bright for place, bright in star_places(others).items()}
+    return len([place for place in here if here[place] == there.get(place)])
+
+
+def all_layings(ones, others):
+    """Each motion of all that could let two stars meet that keeps the lists from being unlike: its meetings."""
+    here, there = heard(ones), heard(others)
+    one_stars, other_stars = star_places(ones), star_places(others)
+    reach = max([abs(number) for place in list(here) + list(there) for number in place], default=0) * 2
+    told = {}
+    for motion in itertools.product(TURNS, range(-reach, reach + 1), range(-reach, reach + 1)):
+        met = [place for place, bright in other_stars.items() if one_stars.get(led(motion, place)) == bright]
+        if met and not denied(here, there, motion):
+            told[motion] = len(met)
+    return told
+
+
+def denied(here, there, motion):
+    for place, lefts in there.items():
+        for one, other in itertools.product(lefts, here.get(led(motion, place), [])):
+            if not one & other:
+                return True
+    return False
+
+
+def expected_sure(ones, others, motions, place):
+    told = []
+    for motion in motions:
+        together = voices(ones, place) + voices(led_lays(others, motion), place)
+        told.append(BY_LEFT[left_by_all(together)])
+    return expected_wide(told)
+
+
+def expected_layings(ones, others, least):
+    """Every motion that lets some star meet another is tried; the lists may lie as far off as they like."""
+    tried = set()
+    for turn in TURNS:
+        for place in star_places(others):
+            x, y = led((turn, 0, 0), place)
+            tried |= {(turn, goal[0] - x, goal[1] - y) for goal in star_places(ones)}
+    return sorted([
+        motion for motion in tried
+        if expected_meetings(ones, others, motion) >= least
+        and expected_unlike(ones, led_lays(others, motion)) is None
+    ])
 
 
 def laid(lays):

@@ -38,10 +38,54 @@ FUNCTIONS = {
         "layings": ["ones", "others", "least"],
         "sure": ["ones", "others", "least", "place"],
     },
+    "deeds": {
+        "deed_text": ["deed"],
+        "read_deed": ["text"],
+    },
+    "book": {
+        "Book": [],
+        "replayed": ["deeds"],
+    },
+    "papers": {
+        "book_rows": ["book"],
+        "read_book": ["rows"],
+    },
+    "desk": {
+        "Desk": [],
+    },
 }
 
 METHODS = {
     ("plates", "Plate"): {"stars": ["self"], "holds": ["self", "place"], "says": ["self", "place"]},
+    ("book", "Book"): {
+        "put": ["self", "name", "width", "height", "limit", "stars"],
+        "drop": ["self", "name"],
+        "tie": ["self", "one", "other", "motion"],
+        "untie": ["self", "number"],
+        "undo": ["self"],
+        "redo": ["self"],
+        "names": ["self"],
+        "window": ["self", "name"],
+        "stars_of": ["self", "name"],
+        "ties": ["self"],
+        "lies": ["self", "one", "other"],
+        "chain": ["self", "one", "other"],
+        "sky": ["self", "name"],
+        "skies": ["self"],
+        "ask": ["self", "name", "place"],
+        "chart": ["self", "name"],
+        "face": ["self", "name"],
+        "form": ["self", "name"],
+        "matches": ["self", "one", "other"],
+        "layings": ["self", "one", "other", "least"],
+        "sure": ["self", "one", "other", "least", "place"],
+        "carries": ["self", "number"],
+        "would": ["self", "one", "other", "motion"],
+        "mends": ["self", "one", "other", "motion"],
+        "log": ["self"],
+        "twin": ["self"],
+    },
+    ("desk", "Desk"): {"say": ["self", "text"], "book": ["self"]},
 }
 
 

@@ -119,6 +119,47 @@ class LanguageTest(unittest.TestCase):
         }
         self.assertEqual(methods & values, set())
 
+    def test_every_value_that_is_asked_is_one_that_some_class_gives(self):
+        # Each parse makes new nodes, so all of them are of one.
+        parsed = nodes()
+        attributes = [(place, node) for place, node in parsed if isinstance(node, ast.Attribute)]
+        given = {node.attr for place, node in attributes if isinstance(node.ctx, ast.Store)}
+        called = [node.func for place, node in parsed if isinstance(node, ast.Call)]
+        for place, node in attributes:
+            if node not in called:
+                self.assertIn(node.attr, given, place)
+
+    def test_own_methods_and_values_are_called_like_none_of_pythons_values(self):
+        pythons = {name for kind in (str, int, list, dict, set, bytes, tuple) for name in dir(kind)}
+        for place, node in nodes():
+            if isinstance(node, ast.ClassDef):
+                for inner in node.body:
+                    if isinstance(inner, ast.FunctionDef) and inner.name != "__init__":
+                        self.assertNotIn(inner.name, pythons, place)
+            if isinstance(node, ast.Attribute) and isinstance(node.ctx, ast.Store):
+                self.assertNotIn(node.attr, pythons, place)
+
+    def test_no_two_files_draw_from_one_another(self):
+        drawn_from = {
+            path.stem: {
+                node.module.split(".")[1]
+                for node in ast.parse(path.read_text(encoding="utf-8")).body
+                if isinstance(node, ast.ImportFrom)
+            }
+            for path in FILES
+        }
+        while drawn_from:
+            free = [name for name, others in drawn_from.items() if not others & set(drawn_from)]
+            self.assertNotEqual(free, [], drawn_from)
+            for name in free:
+                del drawn_from[name]
+
+    def test_errors_are_made_on_the_spot(self):
+        for place, node in nodes():
+            if isinstance(node, ast.Raise):
+                self.assertIsInstance(node.exc, ast.Call, place)
+                self.assertIsInstance(node.exc.func, ast.Name, place)
+
     def test_every_name_drawn_in_is_used(self):
         for name, text in texts():
             tree = ast.parse(text)

@@ -5,8 +5,9 @@ import random
 import unittest
 
 from oracle import (
-    BY_LEFT, HUNDRED, STILL, TURNS, UNSEEN, expected_chart, expected_unlike, expected_wide, frame_places,
-    glass_says, laid, led, led_lays, left, left_by_all, put_together, random_glass, random_motion, voices, window,
+    BY_LEFT, HUNDRED, STILL, TURNS, UNSEEN, all_layings, expected_chart, expected_meetings, expected_sure,
+    expected_unlike, frame_places, laid, led, led_lays, left_by_all, put_together, random_glass, random_motion,
+    star_places, voices,
 )
 
 from nightglass.errors import BadCount, NoLaying
@@ -20,55 +21,6 @@ CROOK = ("crook", 3, 2, 4, [(0, 0, 4), (2, 0, 5), (0, 1, 6)])
 EVEN = ("even", 3, 1, 7, [(0, 0, 7), (2, 0, 7)])
 
 BAD_COUNTS = [0, -1, -2, -HUNDRED]
-
-
-def heard(lays):
-    """For each place of the frame all that the glasses whose windows it lies in leave there, one set each."""
-    told = {}
-    for glass, motion in lays:
-        for place in window(glass):
-            told.setdefault(led(motion, place), []).append(left(glass_says(glass, place)))
-    return told
-
-
-def star_places(lays):
-    rows = expected_chart(lays)
-    return {(x, y): number for x, y, word, number in rows if word == "star"}
-
-
-def expected_meetings(ones, others, motion):
-    here = star_places(ones)
-    there = {led(motion, place): bright for place, bright in star_places(others).items()}
-    return len([place for place in here if here[place] == there.get(place)])
-
-
-def all_layings(ones, others):
-    """Each motion of all that could let two stars meet that keeps the lists from being unlike: its meetings."""
-    here, there = heard(ones), heard(others)
-    one_stars, other_stars = star_places(ones), star_places(others)
-    reach = max([abs(number) for place in list(here) + list(there) for number in place], default=0) * 2
-    told = {}
-    for motion in itertools.product(TURNS, range(-reach, reach + 1), range(-reach, reach + 1)):
-        met = [place for place, bright in other_stars.items() if one_stars.get(led(motion, place)) == bright]
-        if met and not denied(here, there, motion):
-            told[motion] = len(met)
-    return told
-
-
-def denied(here, there, motion):
-    for place, lefts in there.items():
-        for one, other in itertools.product(lefts, here.get(led(motion, place), [])):
-            if not one & other:
-                return True
-    return False
-
-
-def expected_sure(ones, others, motions, place):
-    told = []
-    for motion in motions:
-        together = voices(ones, place) + voices(led_lays(others, motion), place)
-        told.append(BY_LEFT[left_by_all(together)])
-    return expected_wide(told)
 
 
 def lists_without_refused_places(seed, many, names="abcde", brights=(8, 9)):

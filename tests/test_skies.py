@@ -5,8 +5,9 @@ import random
 import unittest
 
 from oracle import (
-    HUNDRED, OTHER_HUNDRED, SAYINGS, STILL, TURNS, UNSEEN, expected_chart, expected_said, expected_unlike,
-    frame_places, laid, led, led_lays, put_together, random_glass, random_motion,
+    HUNDRED, OTHER_HUNDRED, SAYINGS, STILL, TURNS, UNSEEN, expected_chart, expected_form, expected_matches,
+    expected_said, expected_unlike, frame_places, laid, led, led_chart, led_lays, put_together, random_glass,
+    random_motion,
 )
 
 from nightglass.errors import Denied
@@ -291,32 +292,6 @@ def random_chart(rng, size):
     chosen = rng.sample(places, rng.randint(1, len(places)))
     words = rng.sample(SAYINGS[:18], rng.randint(1, 3))
     return sorted([place + rng.choice(words) for place in chosen])
-
-
-def led_chart(rows, motion):
-    return sorted([led(motion, row[:2]) + row[2:] for row in rows])
-
-
-def shifted_to_nought(rows):
-    low_x = min([row[0] for row in rows])
-    low_y = min([row[1] for row in rows])
-    return sorted([(row[0] - low_x, row[1] - low_y) + row[2:] for row in rows])
-
-
-def expected_form(rows):
-    return sorted([shifted_to_nought(led_chart(rows, (turn, 0, 0))) for turn in TURNS])[0]
-
-
-def expected_matches(one, other):
-    """Every motion that leads the other's first row to some row of one, tried."""
-    found = []
-    for turn in TURNS:
-        x, y = led((turn, 0, 0), other[0][:2])
-        for row in one:
-            motion = (turn, row[0] - x, row[1] - y)
-            if led_chart(other, motion) == one:
-                found.append(motion)
-    return sorted(found)
 
 
 # The same from all sides, from two, and from none but itself.
